@@ -1,0 +1,1 @@
+"""Corpuskeep: collections of texts that keep their promises through every change."""
