@@ -1,0 +1,145 @@
+"""[c1] to [c5] and the sentences under Basics: arguments stay the same, and what is returned is new each time."""
+
+import copy
+import unittest
+
+from corpuskeep.cleaning import clean_documents, count_lines, drop_reason, left_words, line_fates
+from corpuskeep.grammar import find_fault, parse_rules
+from corpuskeep.lines import change_text, exam_words, hide_words, split_lines, text_lines
+from corpuskeep.normal import format_rules
+from corpuskeep.pieces import covered_places, uncovered_pieces
+from corpuskeep.rules import Rules, within_limits
+from corpuskeep.shapes import has_any_shape, has_shape
+from corpuskeep.signs import read_signs
+from corpuskeep.standing import phrase_cover, phrase_standings, standing_places
+from tests.samples import FULL_TEXT, fields, make_rules
+
+RULES = make_rules(
+    changes='change "A" to "a";', banned='ban "x";', lines="lines least 1, common 3;", hidden="hide digit 1 to 4;",
+    shares="share letter 2 to 9: 1 of 2;",
+)
+LINES = [[("ab", 0, 1), ("12", 3, 4)], [], [("x", 7, 7)]]
+WORD_LINES = [["ab", "12"], [], ["x"]]
+COUNTS = {("ab", "12"): 1, (): 4, ("x",): 2}
+PHRASES = (2, [["a", "b", "c"], ["b", "z"]], ["x", "a", "b", "c", "y", "a", "b", "z"])
+
+CALLS = [
+    (read_signs, ['sources a 1, "b" ;']),
+    (within_limits, [RULES]),
+    (parse_rules, [FULL_TEXT]),
+    (find_fault, ["sources a 0;"]),
+    (find_fault, [FULL_TEXT]),
+    (format_rules, [RULES]),
+    (has_shape, ["ab12", [("letter", 1, 3), ("digit", 0, 2)]]),
+    (has_any_shape, ["ab12", [[("letter", 1, 3)], [("any", 4, 4)]]]),
+    (change_text, ["a b", [("a", "cc"), (" ", "\n")]]),
+    (split_lines, [[("a", 0), (" ", 1), ("b", 1), ("\n", 2), ("c", 3)]]),
+    (hide_words, [LINES, [[("digit", 1, 2)]], "#"]),
+    (hide_words, [LINES, [], "#"]),
+    (text_lines, ["A 12\nx b", RULES]),
+    (exam_words, ["A 12\nx b", RULES]),
+    (count_lines, [[WORD_LINES, WORD_LINES, [[]]]]),
+    (line_fates, [WORD_LINES, RULES, COUNTS]),
+    (left_words, [LINES, [("kept",), ("kept",), ("banned", "x")]]),
+    (drop_reason, [["ab", "cd", "1"], RULES]),
+    (drop_reason, [["1"], RULES]),
+    (clean_documents, [["A 12\nx b", "c\n\nx", ""], RULES]),
+    (phrase_standings, [*PHRASES]),
+    (phrase_cover, [*PHRASES, 3]),
+    (standing_places, [*PHRASES]),
+    (uncovered_pieces, [*PHRASES]),
+    (covered_places, [*PHRASES]),
+]
+
+
+def frozen(value):
+    """Return a copy that compares by what it holds."""
+    if isinstance(value, Rules):
+        return copy.deepcopy(fields(value))
+    if isinstance(value, (list, tuple)):
+        return type(value)(frozen(part) for part in value)
+    return copy.deepcopy(value)
+
+
+def spoil(value):
+    """Change all lists and dicts of a value."""
+    if isinstance(value, Rules):
+        for name, part in fields(value).items():
+            spoil(part)
+            setattr(value, name, None)
+    elif isinstance(value, (list, tuple)):
+        for part in value:
+            spoil(part)
+    if isinstance(value, list):
+        value.append("spoiled")
+        value.reverse()
+    elif isinstance(value, dict):
+        value["spoiled"] = 1
+
+
+class PureTest(unittest.TestCase):
+    def test_arguments_stay_the_same(self):
+        for function, given in CALLS:
+            before = frozen(given)
+            function(*given)
+            self.assertEqual(frozen(given), before, function.__name__)
+
+    def test_what_is_returned_is_new(self):
+        for function, given in CALLS:
+            before = frozen(given)
+            returned = function(*given)
+            wanted = frozen(returned)
+            spoil(returned)
+            # Neither the arguments nor a later answer is touched by what the caller does with the answer.
+            self.assertEqual(frozen(given), before, function.__name__)
+            self.assertEqual(frozen(function(*given)), wanted, function.__name__)
+
+    def test_later_changes_to_arguments_have_no_effect(self):
+        for function, given in CALLS:
+            if any(isinstance(part, Rules) for part in given):
+                continue
+            arguments = copy.deepcopy(given)
+            returned = function(*arguments)
+            wanted = frozen(returned)
+            spoil(arguments)
+            self.assertEqual(frozen(returned), wanted, function.__name__)
+
+    def test_a_rules_object_is_not_changed_by_its_use(self):
+        before = frozen(RULES)
+        for function, given in CALLS:
+            function(*given)
+        self.assertEqual(frozen(RULES), before)
+
+
+class KindsTest(unittest.TestCase):
+    def test_truth_values(self):
+        for value in (within_limits(RULES), has_shape("", []), has_any_shape("a", [])):
+            self.assertIs(type(value), bool)
+
+    def test_shapes_of_data(self):
+        for line in text_lines("A 12\nb", RULES):
+            for placed in line:
+                self.assertEqual([type(part) for part in placed], [str, int, int])
+                self.assertIs(type(placed), tuple)
+        for piece in uncovered_pieces(*PHRASES):
+            self.assertIs(type(piece), tuple)
+            self.assertEqual([type(part) for part in piece], [int, list])
+        for standing in phrase_standings(*PHRASES):
+            self.assertIs(type(standing), tuple)
+        for reason, fates, words in clean_documents(["a", "a b"], RULES):
+            self.assertIn(type(reason), (tuple, type(None)))
+            self.assertEqual({type(fate) for fate in fates}, {tuple})
+            self.assertEqual({type(placed) for placed in words}, {tuple})
+
+    def test_characters(self):
+        rules = make_rules(hidden="hide letter 1 to 9; hide digit 1 to 9;")
+        for code in range(33, 127):
+            char = chr(code)
+            if char == "\u0025":
+                continue
+            hidden = "0" <= char <= "9" or "a" <= char.lower() <= "z"
+            self.assertEqual(text_lines(f" {char} ", rules), [[("#" if hidden else char, 1, 1)]])
+
+
+if __name__ == "__main__":
+    unittest.main()
