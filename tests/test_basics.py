@@ -3,13 +3,18 @@
 import copy
 import unittest
 
+from corpuskeep.chains import told_chain
+from corpuskeep.classes import alike_pairs, group, kept_ids, meeting_pairs
 from corpuskeep.cleaning import clean_documents, count_lines, drop_reason, left_words, line_fates
+from corpuskeep.common import longest_common_run
+from corpuskeep.fewest import fewest_places
 from corpuskeep.grammar import find_fault, parse_rules
 from corpuskeep.lines import change_text, exam_words, hide_words, split_lines, text_lines
 from corpuskeep.normal import format_rules
 from corpuskeep.pieces import covered_places, uncovered_pieces
 from corpuskeep.rules import Rules, within_limits
 from corpuskeep.shapes import has_any_shape, has_shape
+from corpuskeep.shingles import compare, shingles
 from corpuskeep.signs import read_signs
 from corpuskeep.standing import phrase_cover, phrase_standings, standing_places
 from tests.samples import FULL_TEXT, fields, make_rules
@@ -22,6 +27,8 @@ LINES = [[("ab", 0, 1), ("12", 3, 4)], [], [("x", 7, 7)]]
 WORD_LINES = [["ab", "12"], [], ["x"]]
 COUNTS = {("ab", "12"): 1, (): 4, ("x",): 2}
 PHRASES = (2, [["a", "b", "c"], ["b", "z"]], ["x", "a", "b", "c", "y", "a", "b", "z"])
+DOCUMENTS = [(1, [["a", "b"], ["c"]]), (2, [["a", "b"], ["d"]]), (5, [["d"]]), (6, [["e", "a", "b"]])]
+SHARE = (2, 1, 3)
 
 CALLS = [
     (read_signs, ['sources a 1, "b" ;']),
@@ -49,6 +56,15 @@ CALLS = [
     (standing_places, [*PHRASES]),
     (uncovered_pieces, [*PHRASES]),
     (covered_places, [*PHRASES]),
+    (fewest_places, [*PHRASES]),
+    (longest_common_run, [*PHRASES[1:]]),
+    (shingles, [[["a", "b", "c"], ["d"], ["a", "b"]], 2]),
+    (compare, [[["a", "b", "c"]], [["a", "b"], ["d"]], *SHARE]),
+    (meeting_pairs, [DOCUMENTS, 2]),
+    (alike_pairs, [DOCUMENTS, *SHARE]),
+    (group, [DOCUMENTS, *SHARE]),
+    (kept_ids, [DOCUMENTS, *SHARE]),
+    (told_chain, [DOCUMENTS, *SHARE, 5]),
 ]
 
 
@@ -126,10 +142,19 @@ class KindsTest(unittest.TestCase):
             self.assertEqual([type(part) for part in piece], [int, list])
         for standing in phrase_standings(*PHRASES):
             self.assertIs(type(standing), tuple)
+        self.assertIs(type(longest_common_run(*PHRASES[1:])), tuple)
         for reason, fates, words in clean_documents(["a", "a b"], RULES):
             self.assertIn(type(reason), (tuple, type(None)))
             self.assertEqual({type(fate) for fate in fates}, {tuple})
             self.assertEqual({type(placed) for placed in words}, {tuple})
+
+    def test_shapes_of_likeness(self):
+        self.assertEqual({type(shingle) for shingle in shingles([["a", "b", "c"]], 2)}, {tuple})
+        self.assertEqual({type(pair) for pair in meeting_pairs(DOCUMENTS, 2)}, {tuple})
+        self.assertEqual({type(pair) for pair in alike_pairs(DOCUMENTS, *SHARE)}, {tuple})
+        self.assertEqual({type(ids) for ids in group(DOCUMENTS, *SHARE)}, {list})
+        self.assertIs(type(kept_ids(DOCUMENTS, *SHARE)), dict)
+        self.assertIs(type(told_chain(DOCUMENTS, *SHARE, 5)), list)
 
     def test_characters(self):
         rules = make_rules(hidden="hide letter 1 to 9; hide digit 1 to 9;")

@@ -37,6 +37,16 @@ FUNCTIONS = {
     "pieces": {
         "uncovered_pieces": ["length", "texts", "words"], "covered_places": ["length", "texts", "words"],
     },
+    "fewest": {"fewest_places": ["length", "texts", "words"]},
+    "common": {"longest_common_run": ["texts", "words"]},
+    "shingles": {
+        "shingles": ["pieces", "length"], "compare": ["first", "second", "length", "over", "under"],
+    },
+    "classes": {
+        "meeting_pairs": ["documents", "length"], "alike_pairs": ["documents", "length", "over", "under"],
+        "group": ["documents", "length", "over", "under"], "kept_ids": ["documents", "length", "over", "under"],
+    },
+    "chains": {"told_chain": ["documents", "length", "over", "under", "number"]},
 }
 CLASSES = {
     "errors": [
