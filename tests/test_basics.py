@@ -7,11 +7,17 @@ from corpuskeep.chains import told_chain
 from corpuskeep.classes import alike_pairs, group, kept_ids, meeting_pairs
 from corpuskeep.cleaning import clean_documents, count_lines, drop_reason, left_words, line_fates
 from corpuskeep.common import longest_common_run
+from corpuskeep.errors import TooLarge, UnknownCode
 from corpuskeep.fewest import fewest_places
+from corpuskeep.filling import deal, fill
 from corpuskeep.grammar import find_fault, parse_rules
+from corpuskeep.joining import make_join, word_codes
+from corpuskeep.learning import best_pair, join_gains, learn_joins, pair_gain
 from corpuskeep.lines import change_text, exam_words, hide_words, split_lines, text_lines
 from corpuskeep.normal import format_rules
+from corpuskeep.order import due, fair, phases
 from corpuskeep.pieces import covered_places, uncovered_pieces
+from corpuskeep.reading import code_text, read_codes, read_stream, text_length
 from corpuskeep.rules import Rules, within_limits
 from corpuskeep.shapes import has_any_shape, has_shape
 from corpuskeep.shingles import compare, shingles
@@ -29,6 +35,8 @@ COUNTS = {("ab", "12"): 1, (): 4, ("x",): 2}
 PHRASES = (2, [["a", "b", "c"], ["b", "z"]], ["x", "a", "b", "c", "y", "a", "b", "z"])
 DOCUMENTS = [(1, [["a", "b"], ["c"]]), (2, [["a", "b"], ["d"]]), (5, [["d"]]), (6, [["e", "a", "b"]])]
 SHARE = (2, 1, 3)
+JOINS = [(110, 113), (200, 121), (201, 34)]
+WORDS = ["low", "low", "lower"]
 
 CALLS = [
     (read_signs, ['sources a 1, "b" ;']),
@@ -65,6 +73,25 @@ CALLS = [
     (group, [DOCUMENTS, *SHARE]),
     (kept_ids, [DOCUMENTS, *SHARE]),
     (told_chain, [DOCUMENTS, *SHARE, 5]),
+    (make_join, [[99, 99, 99], (99, 99), 200]),
+    (make_join, [[99, 100], (99, 99), 200]),
+    (make_join, [[], (99, 99), 200]),
+    (word_codes, [JOINS, "lower"]),
+    (pair_gain, [[[99, 99, 99], [], [99, 99]], (99, 99)]),
+    (best_pair, [JOINS, WORDS]),
+    (learn_joins, [10, WORDS]),
+    (learn_joins, [0, WORDS]),
+    (join_gains, [JOINS, WORDS]),
+    (code_text, [JOINS, 202]),
+    (text_length, [JOINS, [202, 201]]),
+    (read_codes, [JOINS, [202, 34, 201]]),
+    (read_stream, [JOINS, [202, 202, 1, 0, 202, 1, 1]]),
+    (phases, [[1, 2, 1], [1, 9, 2]]),
+    (due, [3, 2, 1]),
+    (fair, [[2, 1], [4, 2], [0, 0, 1]]),
+    (fill, [[5, 6, 1], 2]),
+    (fill, [[5, 1], 2]),
+    (deal, [[1, 2], [[5, 6, 1], [7, 1]], 2]),
 ]
 
 
@@ -155,6 +182,26 @@ class KindsTest(unittest.TestCase):
         self.assertEqual({type(ids) for ids in group(DOCUMENTS, *SHARE)}, {list})
         self.assertIs(type(kept_ids(DOCUMENTS, *SHARE)), dict)
         self.assertIs(type(told_chain(DOCUMENTS, *SHARE, 5)), list)
+
+    def test_shapes_of_codes(self):
+        self.assertEqual({type(pair) for pair in learn_joins(9, WORDS)}, {tuple})
+        self.assertEqual([type(part) for part in best_pair(JOINS, WORDS)], [tuple, int])
+        self.assertEqual([type(part) for part in read_codes(JOINS, [202, 110])], [list, str])
+        self.assertIs(type(read_codes(JOINS, [])), tuple)
+        for page in deal([1, 2], [[5, 6, 1], [7, 1]], 2):
+            self.assertIs(type(page), tuple)
+            self.assertEqual([type(part) for part in page], [int, list])
+        self.assertIs(fair([1], [1], [0]), True)
+
+    def test_a_call_that_raises_changes_nothing(self):
+        joins = [(99, 99)] + [(200 + at, 200 + at) for at in range(19)]
+        for error, function, codes in (
+            (UnknownCode, text_length, [99, 0]), (UnknownCode, read_codes, [219, 220]), (TooLarge, read_codes, [219]),
+        ):
+            before = frozen([joins, codes])
+            with self.assertRaises(error):
+                function(joins, codes)
+            self.assertEqual(frozen([joins, codes]), before)
 
     def test_characters(self):
         rules = make_rules(hidden="hide letter 1 to 9; hide digit 1 to 9;")

@@ -47,6 +47,19 @@ FUNCTIONS = {
         "group": ["documents", "length", "over", "under"], "kept_ids": ["documents", "length", "over", "under"],
     },
     "chains": {"told_chain": ["documents", "length", "over", "under", "number"]},
+    "joining": {"make_join": ["codes", "pair", "code"], "word_codes": ["joins", "word"]},
+    "learning": {
+        "pair_gain": ["lists", "pair"], "best_pair": ["joins", "words"], "learn_joins": ["count", "words"],
+        "join_gains": ["joins", "words"],
+    },
+    "reading": {
+        "code_text": ["joins", "code"], "text_length": ["joins", "codes"], "read_codes": ["joins", "codes"],
+        "read_stream": ["joins", "codes"],
+    },
+    "order": {
+        "phases": ["weights", "counts"], "due": ["total", "weight", "placed"], "fair": ["weights", "counts", "phase"],
+    },
+    "filling": {"fill": ["stream", "size"], "deal": ["weights", "streams", "size"]},
 }
 CLASSES = {
     "errors": [
