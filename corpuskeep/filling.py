@@ -12,13 +12,18 @@ def fill(stream, size):
     return pages
 
 
-def deal(weights, streams, size):
-    """Return all pages (source, codes) of the streams in their order."""
-    filled = [fill(stream, size) for stream in streams]
+def give_pages(order, filled):
+    """Return the pages (source, codes) in the order of these phases; `filled` has the pages of each source."""
     given = [0] * len(filled)
     pages = []
-    for phase in phases(weights, [len(own) for own in filled]):
+    for phase in order:
         for source in phase:
             pages.append((source, filled[source][given[source]]))
             given[source] += 1
     return pages
+
+
+def deal(weights, streams, size):
+    """Return all pages (source, codes) of the streams in their order."""
+    filled = [fill(stream, size) for stream in streams]
+    return give_pages(phases(weights, [len(own) for own in filled]), filled)

@@ -7,7 +7,9 @@ from corpuskeep.chains import told_chain
 from corpuskeep.classes import alike_pairs, group, kept_ids, meeting_pairs
 from corpuskeep.cleaning import clean_documents, count_lines, drop_reason, left_words, line_fates
 from corpuskeep.common import longest_common_run
+from corpuskeep.corpora import exam_lists, make_corpus, stream, volumes
 from corpuskeep.errors import TooLarge, UnknownCode
+from corpuskeep.fates import counts, fate
 from corpuskeep.fewest import fewest_places
 from corpuskeep.filling import deal, fill
 from corpuskeep.grammar import find_fault, parse_rules
@@ -17,13 +19,15 @@ from corpuskeep.lines import change_text, exam_words, hide_words, split_lines, t
 from corpuskeep.normal import format_rules
 from corpuskeep.order import due, fair, phases
 from corpuskeep.pieces import covered_places, uncovered_pieces
+from corpuskeep.positions import places_of, position
 from corpuskeep.reading import code_text, read_codes, read_stream, text_length
 from corpuskeep.rules import Rules, within_limits
 from corpuskeep.shapes import has_any_shape, has_shape
 from corpuskeep.shingles import compare, shingles
 from corpuskeep.signs import read_signs
 from corpuskeep.standing import phrase_cover, phrase_standings, standing_places
-from tests.samples import FULL_TEXT, fields, make_rules
+from corpuskeep.volumes import check_sum, read_number, read_volume, write_number, write_volume
+from tests.samples import FULL_TEXT, frozen, make_contents, make_rules, spoil
 
 RULES = make_rules(
     changes='change "A" to "a";', banned='ban "x";', lines="lines least 1, common 3;", hidden="hide digit 1 to 4;",
@@ -37,6 +41,12 @@ DOCUMENTS = [(1, [["a", "b"], ["c"]]), (2, [["a", "b"], ["d"]]), (5, [["d"]]), (
 SHARE = (2, 1, 3)
 JOINS = [(110, 113), (200, 121), (201, 34)]
 WORDS = ["low", "low", "lower"]
+CONTENTS = make_contents(
+    [(1, 0, "a b c x y d e"), (2, 1, "a b c x y d e"), (3, 0, "x y"), (4, 1, "7 f"), (8, 1, "g h i")], ["x y z", "c"],
+    sources="sources s 1, t 2;", shares="share digit: 0 of 1;", joins="joins 2;",
+)
+CORPUS = make_corpus(CONTENTS)
+VOLUME = [2, 0, 3, 5, 172, 2, 0, 1, 0, 199, 88, 109, 172]
 
 CALLS = [
     (read_signs, ['sources a 1, "b" ;']),
@@ -92,32 +102,22 @@ CALLS = [
     (fill, [[5, 6, 1], 2]),
     (fill, [[5, 1], 2]),
     (deal, [[1, 2], [[5, 6, 1], [7, 1]], 2]),
+    (write_number, [300]),
+    (read_number, [[1, 172, 2], 1]),
+    (check_sum, [[1, 172, 2]]),
+    (write_volume, [[(0, [5, 300, 0]), (1, [])]]),
+    (read_volume, [VOLUME]),
+    (position, [CORPUS, 0, 0]),
+    (places_of, [CORPUS, 1]),
+    (make_corpus, [CONTENTS]),
+    (exam_lists, [CONTENTS]),
+    (stream, [CORPUS, 1]),
+    (volumes, [CONTENTS, CORPUS]),
+    (fate, [CONTENTS, CORPUS, 1]),
+    (fate, [CONTENTS, CORPUS, 2]),
+    (fate, [CONTENTS, CORPUS, 4]),
+    (counts, [CONTENTS, CORPUS]),
 ]
-
-
-def frozen(value):
-    """Return a copy that compares by what it holds."""
-    if isinstance(value, Rules):
-        return copy.deepcopy(fields(value))
-    if isinstance(value, (list, tuple)):
-        return type(value)(frozen(part) for part in value)
-    return copy.deepcopy(value)
-
-
-def spoil(value):
-    """Change all lists and dicts of a value."""
-    if isinstance(value, Rules):
-        for name, part in fields(value).items():
-            spoil(part)
-            setattr(value, name, None)
-    elif isinstance(value, (list, tuple)):
-        for part in value:
-            spoil(part)
-    if isinstance(value, list):
-        value.append("spoiled")
-        value.reverse()
-    elif isinstance(value, dict):
-        value["spoiled"] = 1
 
 
 class PureTest(unittest.TestCase):

@@ -60,6 +60,16 @@ FUNCTIONS = {
         "phases": ["weights", "counts"], "due": ["total", "weight", "placed"], "fair": ["weights", "counts", "phase"],
     },
     "filling": {"fill": ["stream", "size"], "deal": ["weights", "streams", "size"]},
+    "volumes": {
+        "write_number": ["n"], "read_number": ["data", "at"], "check_sum": ["data"], "write_volume": ["pages"],
+        "read_volume": ["data"],
+    },
+    "positions": {"position": ["corpus", "page", "place"], "places_of": ["corpus", "number"]},
+    "corpora": {
+        "make_corpus": ["contents"], "exam_lists": ["contents"], "stream": ["corpus", "source"],
+        "volumes": ["contents", "corpus"],
+    },
+    "fates": {"fate": ["contents", "corpus", "number"], "counts": ["contents", "corpus", "source"]},
 }
 CLASSES = {
     "errors": [
@@ -67,6 +77,13 @@ CLASSES = {
         "OtherSources", "TooManyDocuments", "NotPublished", "InvalidBytes", "UnknownCode", "OutOfRange",
     ],
     "rules": ["Rules"],
+    "corpora": ["Contents", "Corpus"],
+    "books": ["Book"],
+}
+# What each class is made with, and the methods that the interface lists for it.
+METHODS = {
+    "corpora.Contents": {"__init__": ["self", "rules_text", "documents", "exams", "rules"]},
+    "books.Book": {"__init__": ["self", "rules_text"], "apply": ["self", "deed"], "now": ["self"], "last": ["self"]},
 }
 
 BUILTINS = set(
@@ -148,6 +165,23 @@ class InterfaceTest(unittest.TestCase):
             for name in names:
                 self.assertEqual(getattr(found, name).__module__, f"corpuskeep.{module}")
 
+    def test_methods_stand_in_their_class_itself(self):
+        for path, methods in METHODS.items():
+            module, _, name = path.partition(".")
+            found = vars(getattr(importlib.import_module(f"corpuskeep.{module}"), name))
+            for method, parameters in methods.items():
+                self.assertEqual(list(inspect.signature(found[method]).parameters), parameters, (path, method))
+
+    def test_parameters_that_may_be_left_out(self):
+        left_out = inspect.Parameter.empty
+        for function, name, value in (
+            (importlib.import_module("corpuskeep.corpora").Contents, "rules", None),
+            (importlib.import_module("corpuskeep.fates").counts, "source", None),
+        ):
+            for parameter in inspect.signature(function).parameters.values():
+                wanted = value if parameter.name == name else left_out
+                self.assertIs(parameter.default, wanted, function)
+
 
 class LanguageTest(unittest.TestCase):
     def test_sizes(self):
@@ -189,7 +223,8 @@ class LanguageTest(unittest.TestCase):
                     known |= {name.name for name in node.names}
                 elif isinstance(node, ast.arg):
                     known.add(node.arg)
-                elif isinstance(node, ast.ExceptHandler):
+                elif isinstance(node, (ast.ExceptHandler, ast.MatchAs, ast.MatchStar)):
+                    self.assertNotIn(node.name or "", BUILTINS, path)
                     known.add(node.name)
                 elif isinstance(node, ast.Name) and isinstance(node.ctx, ast.Store):
                     self.assertNotIn(node.id, BUILTINS, path)
