@@ -15,13 +15,18 @@ def covered_places(length, texts, words):
     return covered
 
 
-def uncovered_pieces(length, texts, words):
-    """Return the pieces of the text, each as a tuple (place, words)."""
+def pieces_between(places, words):
+    """Return the runs of words at all other places than these ascending ones, each as a tuple (place, words)."""
     pieces = []
     start = 0
     # The place behind the last word ends the last piece as a covered place would.
-    for place in covered_places(length, texts, words) + [len(words)]:
+    for place in places + [len(words)]:
         if start < place:
             pieces.append((start, words[start:place]))
         start = place + 1
     return pieces
+
+
+def uncovered_pieces(length, texts, words):
+    """Return the pieces of the text, each as a tuple (place, words)."""
+    return pieces_between(covered_places(length, texts, words), words)

@@ -33,6 +33,22 @@ def phrase_cover(length, texts, words, place):
     return None
 
 
+def first_covers(length, texts, words):
+    """Return for each word the first standing that covers it, or None."""
+    index = phrase_index(length, texts)
+    covers = [None] * len(words)
+    behind = 0
+    for place in range(len(words) - length + 1):
+        found = index.get(tuple(words[place:place + length]), [])
+        if found:
+            number, start = found[0]
+            # Places before `behind` are covered by an earlier standing.
+            for at in range(max(place, behind), place + length):
+                covers[at] = (place, number, start)
+            behind = place + length
+    return covers
+
+
 def standing_places(length, texts, words):
     """Return the places at which some phrase stands, in ascending order."""
     index = phrase_index(length, texts)

@@ -4,6 +4,7 @@ import copy
 import unittest
 
 from corpuskeep.chains import told_chain
+from corpuskeep.checking import accepts, why_not
 from corpuskeep.classes import alike_pairs, group, kept_ids, meeting_pairs
 from corpuskeep.cleaning import clean_documents, count_lines, drop_reason, left_words, line_fates
 from corpuskeep.common import longest_common_run
@@ -14,13 +15,16 @@ from corpuskeep.fewest import fewest_places
 from corpuskeep.filling import deal, fill
 from corpuskeep.grammar import find_fault, parse_rules
 from corpuskeep.joining import make_join, word_codes
+from corpuskeep.journals import choose, empty_journal, extend, is_sealed, recover, seal
 from corpuskeep.learning import best_pair, join_gains, learn_joins, pair_gain
 from corpuskeep.lines import change_text, exam_words, hide_words, split_lines, text_lines
 from corpuskeep.normal import format_rules
 from corpuskeep.order import due, fair, phases
+from corpuskeep.papers import certificate, read_certificate, write_certificate
 from corpuskeep.pieces import covered_places, uncovered_pieces
 from corpuskeep.positions import places_of, position
 from corpuskeep.reading import code_text, read_codes, read_stream, text_length
+from corpuskeep.records import read_deed, read_record, write_deed, write_record
 from corpuskeep.rules import Rules, within_limits
 from corpuskeep.shapes import has_any_shape, has_shape
 from corpuskeep.shingles import compare, shingles
@@ -47,6 +51,9 @@ CONTENTS = make_contents(
 )
 CORPUS = make_corpus(CONTENTS)
 VOLUME = [2, 0, 3, 5, 172, 2, 0, 1, 0, 199, 88, 109, 172]
+PAPER = certificate(CONTENTS, CORPUS)
+WRONG_PAPER = (PAPER[0], PAPER[1], PAPER[2] + [7])
+JOURNAL = extend(extend(empty_journal(), ("exams", ["a", "b\n"])), ("publish",))
 
 CALLS = [
     (read_signs, ['sources a 1, "b" ;']),
@@ -117,6 +124,23 @@ CALLS = [
     (fate, [CONTENTS, CORPUS, 2]),
     (fate, [CONTENTS, CORPUS, 4]),
     (counts, [CONTENTS, CORPUS]),
+    (write_deed, [("exams", ["a", "b\n"])]),
+    (read_deed, [[5, 2, 1, 97, 2, 98, 0]]),
+    (write_record, [3, [5, 2, 1, 97, 2, 98, 0]]),
+    (read_record, [[9] + write_record(3, [5, 2, 1, 97, 2, 98, 0]), 1, 3]),
+    (empty_journal, []),
+    (extend, [JOURNAL, ("exams", ["c"])]),
+    (recover, [JOURNAL + [1, 2]]),
+    (seal, [JOURNAL]),
+    (is_sealed, [seal(JOURNAL)]),
+    (choose, [JOURNAL, seal(JOURNAL)]),
+    (choose, [JOURNAL, []]),
+    (certificate, [CONTENTS, CORPUS]),
+    (write_certificate, [PAPER]),
+    (read_certificate, [write_certificate(PAPER)]),
+    (why_not, [CONTENTS, CORPUS, PAPER]),
+    (why_not, [CONTENTS, CORPUS, WRONG_PAPER]),
+    (accepts, [CONTENTS, CORPUS, PAPER]),
 ]
 
 

@@ -10,9 +10,6 @@ from corpuskeep.errors import (
     CorpusError, DuplicateDocument, NotPublished, OtherSources, RulesFault, TooLarge, TooManyDocuments,
     UnknownDocument, UnknownSource,
 )
-from corpuskeep.order import fair
-from corpuskeep.reading import read_stream
-from tests.plain import plain_alike, plain_corpus
 from tests.samples import (
     FULL_TEXT, corpus_fields, frozen, random_deed, random_exams, random_rules, random_text, rules_text, spoil,
 )
@@ -226,7 +223,7 @@ class HandedOutTest(unittest.TestCase):
 
 
 class HistoriesTest(unittest.TestCase):
-    """[0] and [b4], whatever was done before."""
+    """[b4], whatever was done before."""
 
     def histories(self, seed, many, length):
         """Return books after random deeds, just published each."""
@@ -267,38 +264,6 @@ class HistoriesTest(unittest.TestCase):
             contents, corpus, _ = book.last()
             book.apply(("publish",))
             self.assertEqual(frozen(book.last()), frozen((contents, corpus, (0, 0, 0, 0))))
-
-    def test_what_a_collection_promises(self):
-        published = 0
-        for _, book in self.histories(29, 80, 40):
-            contents, corpus, _ = book.last()
-            self.assertEqual(corpus_fields(corpus), plain_corpus(contents))
-            self.assert_promises(contents, corpus)
-            published += len(corpus.published)
-        self.assertGreater(published, 200)
-
-    def assert_promises(self, contents, corpus):
-        rules = contents.rules
-        by_document = {}
-        for number, _, _, words in corpus.published:
-            by_document.setdefault(number, []).append(words)
-        for a, first in by_document.items():
-            for b, second in by_document.items():
-                self.assertEqual(plain_alike(first, second, rules), a == b)
-        for _, _, _, words in corpus.published:
-            for phrase in corpus.phrases:
-                n = len(phrase)
-                self.assertNotIn(phrase, [words[at:at + n] for at in range(len(words) - n + 1)])
-        left = [sum(own == at for own, _ in corpus.pages) for at in range(len(rules.sources))]
-        for phase in corpus.phases:
-            self.assertTrue(fair([weight for _, weight in rules.sources], left, phase))
-            left = [many - phase.count(at) for at, many in enumerate(left)]
-        self.assertEqual(sum(left), 0)
-        for at in range(len(rules.sources)):
-            codes = [code for own, page in corpus.pages for code in page if own == at]
-            self.assertEqual(
-                read_stream(corpus.joins, codes), [words for _, own, _, words in corpus.published if own == at],
-            )
 
 
 class SpeedTest(unittest.TestCase):

@@ -70,6 +70,20 @@ FUNCTIONS = {
         "volumes": ["contents", "corpus"],
     },
     "fates": {"fate": ["contents", "corpus", "number"], "counts": ["contents", "corpus", "source"]},
+    "records": {
+        "write_deed": ["deed"], "read_deed": ["data"], "write_record": ["n", "body"],
+        "read_record": ["data", "at", "n"],
+    },
+    "journals": {
+        "empty_journal": [], "extend": ["journal", "deed"], "recover": ["data"], "seal": ["journal"],
+        "is_sealed": ["data"], "choose": ["old", "new"],
+    },
+    "compacting": {"compact": ["book"]},
+    "keepers": {"take_up": ["data"]},
+    "papers": {
+        "certificate": ["contents", "corpus"], "write_certificate": ["paper"], "read_certificate": ["data"],
+    },
+    "checking": {"why_not": ["contents", "corpus", "paper"], "accepts": ["contents", "corpus", "paper"]},
 }
 CLASSES = {
     "errors": [
@@ -79,11 +93,15 @@ CLASSES = {
     "rules": ["Rules"],
     "corpora": ["Contents", "Corpus"],
     "books": ["Book"],
+    "keepers": ["Keeper"],
 }
 # What each class is made with, and the methods that the interface lists for it.
 METHODS = {
     "corpora.Contents": {"__init__": ["self", "rules_text", "documents", "exams", "rules"]},
     "books.Book": {"__init__": ["self", "rules_text"], "apply": ["self", "deed"], "now": ["self"], "last": ["self"]},
+    "keepers.Keeper": {
+        "__init__": ["self", "rules_text"], "do": ["self", "deed"], "journal": ["self"], "shorten": ["self"],
+    },
 }
 
 BUILTINS = set(

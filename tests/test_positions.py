@@ -128,8 +128,8 @@ class SpeedTest(unittest.TestCase):
             (number, number % 4, "".join(source.choice("cdefgh ") for _ in range(400))) for number in range(24)
         ]
         contents = make_contents(
-            documents, sources="sources s 2, t 1, u 1, v 100;", changes='change "c" to "c d e f"; change "h" to "h i j k";',
-            joins="joins 30;", pages="pages 1;",
+            documents, sources="sources s 2, t 1, u 1, v 100;", joins="joins 30;", pages="pages 1;",
+            changes='change "c" to "c d e f"; change "h" to "h i j k";',
         )
         corpus = make_corpus(contents)
         self.assertGreater(len(corpus.pages), 5000)
