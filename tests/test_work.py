@@ -144,6 +144,11 @@ class RulesTest(unittest.TestCase):
         self.assertEqual(work_after(published_book(), ("exams", ["x y", "v"])), (0, 0, 0, 0))
         self.assertEqual(work_after(published_book(), ("exams", ["", "x\ny"])), (0, 0, 0, 0))
 
+    def test_rules_that_change_the_phrases_only(self):
+        book = published_book()
+        work_after(book, ("exams", ["v w"]))
+        self.assertEqual(work_after(book, ("rules", rules_text(**{**PLAIN, "phrases": "phrases 1;"}))), (0, 3, 0, 0))
+
     def test_the_order_of_phrases(self):
         book = published_book()
         rows = [("exams", ["x y", "v w"]), ("exams", ["v w", "x y"]), ("exams", ["v w", "x y"])]
